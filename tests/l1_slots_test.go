@@ -416,8 +416,8 @@ func callAll(x impl.Table) {
 	}
 }
 
-// TestTablesStay looks at the memory of the arguments, also beyond their length.
-func TestTablesStay(t *testing.T) {
+// checkStay looks at the memory of the tables that are handed on, also beyond their length.
+func checkStay(t *testing.T, call func(impl.Table)) {
 	tables := texted()
 	for why, x := range notValid() {
 		tables[why] = x
@@ -425,11 +425,15 @@ func TestTablesStay(t *testing.T) {
 	for name, x := range tables {
 		memory := append(slices.Clone(x.Slots), 77, 78)
 		before := slices.Clone(memory)
-		callAll(impl.Table{Times: x.Times, Plus: x.Plus, Slots: memory[:len(x.Slots)]})
+		call(impl.Table{Times: x.Times, Plus: x.Plus, Slots: memory[:len(x.Slots)]})
 		if !slices.Equal(memory, before) {
 			t.Errorf("%s: the slots became %v", name, memory)
 		}
 	}
+}
+
+func TestTablesStay(t *testing.T) {
+	checkStay(t, callAll)
 }
 
 // spoil changes all the memory that a slice reaches.
