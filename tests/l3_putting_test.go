@@ -371,19 +371,15 @@ func TestListsStayInPutting(t *testing.T) {
 	}
 }
 
-func TestPuttingResultsShareNothing(t *testing.T) {
-	memory := append(slotsWith(7, 7, 14), 97, 98, 99)
-	before := slices.Clone(memory)
-	x := tableOf(1, 0, memory[:7]...)
-	one, _ := impl.PutKey(x, 21)
-	two, _ := impl.PutAll(x, []int{21, 28})
-	// Nothing is put here, but the table is one of its own all the same.
-	three, _ := impl.PutAll(x, []int{7})
-	four, _ := impl.PutAll(x, nil)
-	results := []impl.Table{one, two, three, four}
+// checkApart spoils each of some tables in turn, which must leave the others as they are.
+func checkApart(t *testing.T, results ...impl.Table) {
+	t.Helper()
 	for i, result := range results {
 		others := slices.Delete(slices.Clone(results), i, i+1)
-		kept := []string{impl.FormatTable(others[0]), impl.FormatTable(others[1]), impl.FormatTable(others[2])}
+		var kept []string
+		for _, other := range others {
+			kept = append(kept, impl.FormatTable(other))
+		}
 		slots := slices.Clone(result.Slots)
 		spoil(result.Slots)
 		for n, other := range others {
@@ -393,6 +389,18 @@ func TestPuttingResultsShareNothing(t *testing.T) {
 		}
 		copy(result.Slots, slots)
 	}
+}
+
+func TestPuttingResultsShareNothing(t *testing.T) {
+	memory := append(slotsWith(7, 7, 14), 97, 98, 99)
+	before := slices.Clone(memory)
+	x := tableOf(1, 0, memory[:7]...)
+	one, _ := impl.PutKey(x, 21)
+	two, _ := impl.PutAll(x, []int{21, 28})
+	// Nothing is put here, but the table is one of its own all the same.
+	three, _ := impl.PutAll(x, []int{7})
+	four, _ := impl.PutAll(x, nil)
+	checkApart(t, one, two, three, four)
 	if !slices.Equal(memory, before) {
 		t.Errorf("the slots became %v", memory)
 	}
