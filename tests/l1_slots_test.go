@@ -203,23 +203,27 @@ func TestTextsOfNoTable(t *testing.T) {
 	}
 }
 
-// TestTextsWithAByteOther holds for each text: it is the text of the table that it parses to, or has none.
-func TestTextsWithAByteOther(t *testing.T) {
-	check := func(text string) {
-		got, ok := impl.ParseTable(text)
-		if ok && (impl.FormatTable(got) != text || !impl.TableValid(got)) || !ok && !isZero(got) {
-			t.Errorf("ParseTable(%q) = %v, %v", text, got, ok)
+// eachByteOther hands on the texts that a text becomes with a byte more, a byte less or a byte other, and where it is cut off.
+func eachByteOther(text string, check func(string)) {
+	for at := range len(text) {
+		check(text[:at])
+		check(text[:at] + text[at+1:])
+		for b := range 256 {
+			check(text[:at] + string([]byte{byte(b)}) + text[at:])
+			check(text[:at] + string([]byte{byte(b)}) + text[at+1:])
 		}
 	}
+}
+
+// TestTextsWithAByteOther holds for each text: it is the text of the table that it parses to, or has none.
+func TestTextsWithAByteOther(t *testing.T) {
 	for text := range texted() {
-		for at := range len(text) {
-			check(text[:at])
-			check(text[:at] + text[at+1:])
-			for b := range 256 {
-				check(text[:at] + string([]byte{byte(b)}) + text[at:])
-				check(text[:at] + string([]byte{byte(b)}) + text[at+1:])
+		eachByteOther(text, func(text string) {
+			got, ok := impl.ParseTable(text)
+			if ok && (impl.FormatTable(got) != text || !impl.TableValid(got)) || !ok && !isZero(got) {
+				t.Errorf("ParseTable(%q) = %v, %v", text, got, ok)
 			}
-		}
+		})
 	}
 }
 
