@@ -648,21 +648,26 @@ func callPushing(n impl.Nest) {
 	}
 }
 
-func TestTablesStayInPushing(t *testing.T) {
+// checkNestsStay looks at the memory of the nests that are handed on, also beyond their length.
+func checkNestsStay(t *testing.T, call func(impl.Nest)) {
 	checkStay(t, func(x impl.Table) {
-		callPushing(nestIn(x, 2, 1))
-		callPushing(nestIn(x, x.Times, x.Plus))
+		call(nestIn(x, 2, 1))
+		call(nestIn(x, x.Times, x.Plus))
 	})
-	// Here keys are pushed and pulled.
+	// These are nests in which keys are in each other's way.
 	for _, n := range textedNests() {
 		memory := append(slices.Clone(n.Slots), 77, 78)
 		before := slices.Clone(memory)
 		n.Slots = memory[:len(n.Slots)]
-		callPushing(n)
+		call(n)
 		if !slices.Equal(memory, before) {
 			t.Errorf("the slots became %v", memory)
 		}
 	}
+}
+
+func TestTablesStayInPushing(t *testing.T) {
+	checkNestsStay(t, callPushing)
 }
 
 func TestListsStayInPushing(t *testing.T) {
