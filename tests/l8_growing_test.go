@@ -604,14 +604,12 @@ func TestGrowingResultsShareNothing(t *testing.T) {
 	}
 }
 
-// TestMovesLeaveNoGoroutines waits for a while: a goroutine ends a moment after it has sent for the last time.
-func TestMovesLeaveNoGoroutines(t *testing.T) {
+// checkGoroutinesEnd waits for a while: a goroutine ends a moment after it has sent for the last time.
+func checkGoroutinesEnd(t *testing.T, call func()) {
+	t.Helper()
 	before := runtime.NumGoroutine()
-	m := moveOf("1+0:4 1 . 3", "1+0:. . . . .", 0)
 	for range 500 {
-		impl.StepMove(m)
-		impl.EndMove(m)
-		impl.StepMove(impl.Move{Old: m.New, New: m.New, Next: 5})
+		call()
 	}
 	for tries := 0; runtime.NumGoroutine() > before; tries++ {
 		if tries == 1000 {
@@ -619,4 +617,13 @@ func TestMovesLeaveNoGoroutines(t *testing.T) {
 		}
 		time.Sleep(time.Millisecond)
 	}
+}
+
+func TestMovesLeaveNoGoroutines(t *testing.T) {
+	m := moveOf("1+0:4 1 . 3", "1+0:. . . . .", 0)
+	checkGoroutinesEnd(t, func() {
+		impl.StepMove(m)
+		impl.EndMove(m)
+		impl.StepMove(impl.Move{Old: m.New, New: m.New, Next: 5})
+	})
 }
